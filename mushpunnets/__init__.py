@@ -1,0 +1,1 @@
+"""Punnets: mushrooms packed so many in each, none much wider than another."""
