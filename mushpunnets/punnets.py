@@ -4,6 +4,7 @@ MOST_MUSHROOMS = 24
 MOST_WIDE = 100
 MOST_EACH = 6
 MOST_DIFFER = 50
+MOST_DIFFER_ASKED = 100
 MOST_TAKEN_BACK = 10
 
 NO_MUSHROOM = -2
@@ -12,6 +13,7 @@ THAT_ALREADY = -17
 NOT_AS_TOLD = -22
 NO_ROOM = -28
 NO_PUNNET = -33
+NO_DIFFERENCE = -33
 NOT_BEGUN = -61
 
 BEGIN = 0
@@ -75,16 +77,22 @@ def in_row(widths):
     return sorted(range(len(widths)), key=lambda i: (widths[i], i))
 
 
+def spread_of(widths, mushrooms):
+    """By how much the widest of these mushrooms is wider than the narrowest; there is one at least."""
+    chosen = [widths[i] for i in mushrooms]
+    return max(chosen) - min(chosen)
+
+
 def packed(widths, each, differ):
     """The punnets as they come, each the mushrooms in it as they stand in the row."""
     row = in_row(widths)
     punnets = []
     first = 0
-    while first < len(row):
-        last = first + each - 1
-        if last < len(row) and widths[row[last]] - widths[row[first]] <= differ:
-            punnets.append(row[first:last + 1])
-            first = last + 1
+    while first + each <= len(row):
+        mushrooms = row[first:first + each]
+        if spread_of(widths, mushrooms) <= differ:
+            punnets.append(mushrooms)
+            first = first + each
         else:
             first = first + 1
     return punnets
@@ -92,6 +100,19 @@ def packed(widths, each, differ):
 
 def packed_in(shed):
     return packed(shed.widths, shed.each, shed.differ)
+
+
+def how_many(widths, each, differ):
+    return len(packed(widths, each, differ))
+
+
+def how_many_with(shed, width):
+    """How many punnets would come with one mushroom more, so wide."""
+    return how_many(shed.widths + [width], shed.each, shed.differ)
+
+
+def how_many_without(shed, i):
+    return how_many(shed.widths[:i] + shed.widths[i + 1:], shed.each, shed.differ)
 
 
 def punnet_with(punnets, i):
@@ -199,8 +220,85 @@ def call_left(shed, given):
     return [len(over)] + over
 
 
-# In the order of the calls' numbers; those behind the last one here are not built yet.
-BUILT = (
+def call_is_one(shed, given):
+    # The row's length stands first; end_of_call has made use of it already.
+    mushrooms = given[1:]
+    for i in mushrooms:
+        if not is_mushroom(shed, i):
+            return [NOT_AS_TOLD]
+    if len(mushrooms) != shed.each or len(set(mushrooms)) != len(mushrooms):
+        return [0]
+    if spread_of(shed.widths, mushrooms) > shed.differ:
+        return [0]
+    return [1]
+
+
+def call_spread(shed, given):
+    p = given[0]
+    punnets = packed_in(shed)
+    if p >= len(punnets):
+        return [NO_PUNNET]
+    return [spread_of(shed.widths, punnets[p])]
+
+
+def call_if_differ(shed, given):
+    differ = given[0]
+    if not is_differ(differ):
+        return [NOT_AS_TOLD]
+    return [how_many(shed.widths, shed.each, differ)]
+
+
+def call_if_each(shed, given):
+    each = given[0]
+    if not is_each(each):
+        return [NOT_AS_TOLD]
+    return [how_many(shed.widths, each, shed.differ)]
+
+
+def call_least(shed, given):
+    wanted = given[0]
+    if wanted > MOST_MUSHROOMS:
+        return [NOT_AS_TOLD]
+    for differ in range(MOST_DIFFER_ASKED + 1):
+        if how_many(shed.widths, shed.each, differ) >= wanted:
+            return [differ]
+    return [NO_DIFFERENCE]
+
+
+def call_more(shed, given):
+    width = given[0]
+    if not is_width(width):
+        return [NOT_AS_TOLD]
+    return [how_many_with(shed, width)]
+
+
+def call_best_more(shed, given):
+    best = 1
+    most = how_many_with(shed, best)
+    for width in range(2, MOST_WIDE + 1):
+        come = how_many_with(shed, width)
+        if come > most:
+            best = width
+            most = come
+    return [best, most]
+
+
+def call_needed(shed, given):
+    come = len(packed_in(shed))
+    needed = [i for i in range(len(shed.widths)) if how_many_without(shed, i) < come]
+    return [len(needed)] + needed
+
+
+def call_order(shed, given):
+    return [len(shed.widths)] + in_row(shed.widths)
+
+
+def call_state(shed, given):
+    return [shed.each, shed.differ, len(shed.widths), len(shed.earlier)]
+
+
+# In the order of the calls' numbers.
+CALLS = (
     call_begin,
     call_cap,
     call_out,
@@ -212,6 +310,16 @@ BUILT = (
     call_punnet,
     call_which,
     call_left,
+    call_is_one,
+    call_spread,
+    call_if_differ,
+    call_if_each,
+    call_least,
+    call_more,
+    call_best_more,
+    call_needed,
+    call_order,
+    call_state,
 )
 
 
@@ -226,9 +334,7 @@ def end_of_call(calls, start):
 def answer(shed, call, given):
     if call != BEGIN and not shed.begun:
         return [NOT_BEGUN]
-    if call >= len(BUILT):
-        raise NotImplementedError("this call is not built yet")
-    return BUILT[call](shed, given)
+    return CALLS[call](shed, given)
 
 
 def answers(calls):

@@ -10,6 +10,10 @@ NAMES = (
 BACK = ("back",)
 COUNT = ("count",)
 LEFT = ("left",)
+BEST_MORE = ("best_more",)
+NEEDED = ("needed",)
+ORDER = ("order",)
+STATE = ("state",)
 
 BIGGEST = 4294967295
 

@@ -2,13 +2,12 @@
 
 import unittest
 
-from helper import BACK, BIGGEST, COUNT, LEFT, ask, behind, told
+from helper import BACK, BEST_MORE, BIGGEST, COUNT, LEFT, NEEDED, ORDER, STATE, ask, behind, told
 
 ALL_BUT_BEGIN = (
     ("cap", 10), ("out", 0), ("width", 0, 10), ("each", 2), ("differ", 5), BACK, COUNT, ("punnet", 0),
     ("which", 0), LEFT, ("is_one", []), ("is_one", [0]), ("is_one", list(range(30))), ("spread", 0),
-    ("if_differ", 3), ("if_each", 3), ("least", 1), ("more", 10), ("best_more",), ("needed",), ("order",),
-    ("state",),
+    ("if_differ", 3), ("if_each", 3), ("least", 1), ("more", 10), BEST_MORE, NEEDED, ORDER, STATE,
 )
 
 
@@ -23,13 +22,22 @@ class AheadOfBegin(unittest.TestCase):
 
     def test_goes_ahead_of_every_other_refusal(self):
         wrong = [("cap", 0), ("cap", BIGGEST), ("out", BIGGEST), ("width", BIGGEST, BIGGEST), ("each", 0),
-                 ("each", BIGGEST), ("differ", 51), ("differ", BIGGEST), ("punnet", BIGGEST), ("which", BIGGEST)]
+                 ("each", BIGGEST), ("differ", 51), ("differ", BIGGEST), ("punnet", BIGGEST), ("which", BIGGEST),
+                 ("is_one", [BIGGEST]), ("is_one", [BIGGEST] * 30), ("spread", BIGGEST), ("if_differ", 51),
+                 ("if_differ", BIGGEST), ("if_each", 0), ("if_each", BIGGEST), ("least", 25), ("least", BIGGEST),
+                 ("more", 0), ("more", BIGGEST)]
         self.assertEqual(ask(*wrong), [[-61]] * len(wrong))
 
     def test_calls_ahead_leave_nothing(self):
         ahead = [("cap", 10), ("cap", 10), ("each", 1), ("differ", 50), ("begin", 2, 0)]
         self.assertEqual(behind(ahead, COUNT, LEFT, ("out", 0), BACK, ("each", 2), ("differ", 0)),
                          [[0], [0], [-2], [-2], [-17], [-17]])
+        self.assertEqual(behind(ahead, STATE, ORDER, NEEDED), [[2, 0, 0, 0], [0], [0]])
+
+    def test_each_call_behind_a_refused_begin(self):
+        for call in ALL_BUT_BEGIN:
+            with self.subTest(call=call):
+                self.assertEqual(ask(("begin", 7, 51), call, ("begin", 1, 0)), [[-22], [-61], [0]])
 
     def test_a_refused_begin_does_not_begin(self):
         self.assertEqual(ask(("begin", 0, 5), COUNT, ("begin", 7, 5), LEFT, ("begin", 2, 51), ("cap", 10)),

@@ -40,6 +40,24 @@ EVERY_CALL = [
     9, 1,
     9, BIGGEST,
     10,
+    11, 0,
+    11, 2, 2, 0,
+    11, 3, 0, 2, 3,
+    12, 0,
+    12, 1,
+    13, 50,
+    13, 51,
+    14, 1,
+    14, 0,
+    15, 1,
+    15, 2,
+    15, 25,
+    16, 39,
+    16, 101,
+    17,
+    18,
+    19,
+    20,
     0, 0, 0,
     10,
 ]
@@ -65,6 +83,24 @@ EVERY_ANSWER = [
     1, -33,
     1, -2,
     2, 1, 1,
+    1, 0,
+    1, 1,
+    1, -22,
+    1, 4,
+    1, -33,
+    1, 1,
+    1, -22,
+    1, 3,
+    1, -22,
+    1, 4,
+    1, -33,
+    1, -22,
+    1, 2,
+    1, -22,
+    2, 34, 2,
+    3, 2, 0, 2,
+    4, 3, 0, 2, 1,
+    4, 2, 6, 3, 6,
     1, -22,
     2, 1, 1,
 ]
@@ -88,6 +124,21 @@ class Interface(unittest.TestCase):
             with self.subTest(call=call):
                 self.assertEqual(answers([call] + [BIGGEST] * many + [0, 1, 0]), [1, -61, 1, 0])
 
+    def test_how_many_numbers_each_call_has_behind_begin(self):
+        for call, many in ((12, 1), (13, 1), (14, 1), (15, 1), (16, 1), (17, 0), (18, 0), (19, 0), (20, 0)):
+            with self.subTest(call=call):
+                told = answers([0, 1, 0, call] + [7] * many + [9, 0])
+                self.assertEqual(told[:2] + told[-2:], [1, 0, 1, -2])
+                self.assertEqual(told[2], len(told) - 5)
+
+    def test_a_row_is_read_to_its_end_behind_begin(self):
+        for many in (0, 1, 2, 29, 30):
+            for number in (0, 1, 11, 20, BIGGEST):
+                with self.subTest(many=many, number=number):
+                    one = 0 if many == 0 else -22 if number > 0 else 1 if many == 1 else 0
+                    self.assertEqual(answers([0, 1, 0, 1, 9, 11, many] + [number] * many + [20]),
+                                     [1, 0, 1, 0, 1, one, 4, 1, 0, 1, 1])
+
     def test_a_hundred_calls(self):
         self.assertEqual(answers([0, 1, 0] + [1, 9] * 24 + [10, 7, 1, 9] * 25),
                          [1, 0] + [n for i in range(24) for n in (1, i)] + [1, 0, 1, 24, 1, -28] * 25)
@@ -95,6 +146,14 @@ class Interface(unittest.TestCase):
 
     def test_a_long_list(self):
         self.assertEqual(answers(([11, 30] + [BIGGEST] * 30) * 100), [1, -61] * 100)
+        self.assertEqual(answers([0, 1, 50] + ([11, 30] + [BIGGEST] * 30) * 99), [1, 0] + [1, -22] * 99)
+
+    def test_the_longest_answers(self):
+        ahead = [0, 1, 0] + [1, 9] * 24
+        for call, expected in (([17], [2, 1, 25]), ([18], [25, 24] + list(range(24))),
+                               ([19], [25, 24] + list(range(24))), ([15, 24], [1, 0]), ([20], [4, 1, 0, 24, 10])):
+            with self.subTest(call=call):
+                self.assertEqual(answers(ahead + call * 75)[50:], expected * 75)
 
     def test_what_is_given_back_are_whole_numbers_in_a_list(self):
         told = answers(list(EVERY_CALL))

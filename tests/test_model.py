@@ -3,7 +3,26 @@
 import random
 import unittest
 
-from helper import BIGGEST, ask
+from helper import BIGGEST, NAMES, ask
+
+
+def packed_so(each, differ, widths):
+    """The punnets, and those left over."""
+    row = sorted((width, i) for i, width in enumerate(widths))
+    punnets = []
+    over = []
+    while row:
+        some = row[:each]
+        if len(some) == each and some[-1][0] - some[0][0] <= differ:
+            punnets.append([i for width, i in some])
+            row = row[each:]
+        else:
+            over.append(row.pop(0)[1])
+    return punnets, sorted(over)
+
+
+def come(each, differ, widths):
+    return len(packed_so(each, differ, widths)[0])
 
 
 class Model:
@@ -31,18 +50,7 @@ class Model:
         return each, differ, widths
 
     def packed(self):
-        each, differ, widths = self.now()
-        row = sorted((width, i) for i, width in enumerate(widths))
-        punnets = []
-        over = []
-        while row:
-            some = row[:each]
-            if len(some) == each and some[-1][0] - some[0][0] <= differ:
-                punnets.append([i for width, i in some])
-                row = row[each:]
-            else:
-                over.append(row.pop(0)[1])
-        return punnets, sorted(over)
+        return packed_so(*self.now())
 
     def refusal(self, name, given):
         each, differ, widths = self.now()
@@ -52,15 +60,21 @@ class Model:
             due.append(-2)
         if name == "back" and self.can == 0:
             due.append(-2)
-        if name in ("cap", "width") and not 1 <= given[-1] <= 100:
+        if name in ("cap", "width", "more") and not 1 <= given[-1] <= 100:
             due.append(-22)
-        if name == "each" and not 1 <= given[0] <= 6 or name == "differ" and given[0] > 50:
+        if name in ("each", "if_each") and not 1 <= given[0] <= 6:
+            due.append(-22)
+        if name in ("differ", "if_differ") and given[0] > 50 or name == "least" and given[0] > 24:
+            due.append(-22)
+        if name == "is_one" and any(i >= len(widths) for i in given[0]):
             due.append(-22)
         if name == "each" and given[0] == each or name == "differ" and given[0] == differ:
             due.append(-17)
         if name == "cap" and len(widths) == 24:
             due.append(-28)
-        if name == "punnet" and given[0] >= len(punnets) or name == "which" and given[0] in over:
+        if name in ("punnet", "spread") and given[0] >= len(punnets) or name == "which" and given[0] in over:
+            due.append(-33)
+        if name == "least" and given[0] > len(widths) // each:
             due.append(-33)
         return due[:1]
 
@@ -98,7 +112,41 @@ class Model:
             return [len(over)] + over
         if name == "punnet":
             return [len(punnets[given[0]])] + punnets[given[0]]
-        return [p for p, mushrooms in enumerate(punnets) if given[0] in mushrooms]
+        if name == "which":
+            return [p for p, mushrooms in enumerate(punnets) if given[0] in mushrooms]
+        if name == "spread":
+            widths = sorted(self.now()[2][i] for i in punnets[given[0]])
+            return [widths[-1] - widths[0]]
+        if name in ("is_one", "order", "state"):
+            return self.of_the_mushrooms(name, given)
+        return self.would(name, given)
+
+    def of_the_mushrooms(self, name, given):
+        each, differ, widths = self.now()
+        if name == "state":
+            return [each, differ, len(widths), self.can]
+        if name == "order":
+            return [len(widths)] + [i for width in range(1, 101) for i, one in enumerate(widths) if one == width]
+        if len(given[0]) != each or sorted(given[0]) != sorted(set(given[0])):
+            return [0]
+        return [int(all(abs(widths[i] - widths[j]) <= differ for i in given[0] for j in given[0]))]
+
+    def would(self, name, given):
+        each, differ, widths = self.now()
+        if name == "if_differ":
+            return [come(each, given[0], widths)]
+        if name == "if_each":
+            return [come(given[0], differ, widths)]
+        if name == "least":
+            return [min(d for d in range(101) if come(each, d, widths) >= given[0])]
+        if name == "more":
+            return [come(each, differ, widths + given)]
+        if name == "best_more":
+            count, width = max((come(each, differ, [width] + widths), -width) for width in range(1, 101))
+            return [-width, count]
+        count = come(each, differ, widths)
+        needed = [i for i in range(len(widths)) if come(each, differ, widths[:i] + widths[i + 1:]) != count]
+        return [len(needed)] + needed
 
     def answer(self, call):
         name, *given = call
@@ -117,27 +165,35 @@ class Model:
 def some_number(chance, low, high):
     """Mostly from low to high, now and then just beside it or far off."""
     if chance.random() < 0.06:
-        return chance.choice((0, max(0, low - 1), high + 1, 51, 101, BIGGEST))
+        return chance.choice((0, max(0, low - 1), high + 1, 24, 25, 51, 101, BIGGEST))
     return chance.randint(low, high)
 
 
+def some_row(chance, most):
+    """Often so many as a punnet may have and none twice, else anything."""
+    if chance.random() < 0.7:
+        return chance.sample(range(most + 1), min(most + 1, chance.randint(1, 4)))
+    return [some_number(chance, 0, most) for k in range(chance.choice((0, 1, 2, 3, 4, 6, 29, 30)))]
+
+
 def some_call(chance, widest, most):
-    name = chance.choices(("begin", "cap", "out", "width", "each", "differ", "back", "count", "punnet", "which", "left"),
-                          (1, 40, 6, 10, 5, 5, 12, 10, 12, 12, 10))[0]
+    name = chance.choices(NAMES, (1, 50, 6, 10, 5, 5, 12, 6, 7, 7, 6, 14, 6, 6, 6, 7, 6, 3, 5, 5, 6))[0]
     if name == "begin":
         return (name, some_number(chance, 1, 6), some_number(chance, 0, 50))
-    if name == "cap":
+    if name in ("cap", "more"):
         return (name, some_number(chance, 1, widest))
     if name == "width":
         return (name, some_number(chance, 0, most), some_number(chance, 1, widest))
-    if name == "each":
+    if name in ("each", "if_each"):
         return (name, some_number(chance, 1, 6))
-    if name == "differ":
+    if name in ("differ", "if_differ"):
         return (name, some_number(chance, 0, min(50, widest // 3)))
     if name in ("out", "which"):
         return (name, some_number(chance, 0, most))
-    if name == "punnet":
+    if name in ("punnet", "spread", "least"):
         return (name, some_number(chance, 0, 5))
+    if name == "is_one":
+        return (name, some_row(chance, most))
     return (name,)
 
 

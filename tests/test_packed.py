@@ -1,7 +1,6 @@
 """count, punnet, which and left: how mushrooms are packed."""
 
 import unittest
-from itertools import combinations, permutations, product
 
 from helper import BIGGEST, COUNT, LEFT, ask, behind, packing, told
 
@@ -117,54 +116,6 @@ class Answers(unittest.TestCase):
         self.assertEqual(behind(told(2, 5, [10]), LEFT, ("cap", 14), LEFT, ("width", 0, 20), LEFT, ("differ", 6),
                                 ("punnet", 0), ("out", 0), LEFT, ("each", 1), ("punnet", 0)),
                          [[1, 0], [1], [0], [10], [2, 0, 1], [5], [2, 1, 0], [1], [1, 0], [2], [1, 0]])
-
-
-def most_by_any_way(widths, each, differ):
-    """How many punnets come at the most, however the mushrooms are put together."""
-    if len(widths) < each:
-        return 0
-    others = widths[1:]
-    most = most_by_any_way(others, each, differ)
-    for chosen in combinations(range(len(others)), each - 1):
-        within = [widths[0]] + [others[i] for i in chosen]
-        if max(within) - min(within) <= differ:
-            rest = [width for i, width in enumerate(others) if i not in chosen]
-            most = max(most, 1 + most_by_any_way(rest, each, differ))
-    return most
-
-
-def count_of(each, differ, widths):
-    return behind(told(each, differ, widths), COUNT)[0][0]
-
-
-class WhatHolds(unittest.TestCase):
-    def test_by_no_way_more_come(self):
-        for widths in product((1, 2, 4, 7), repeat=5):
-            for each, differ in ((2, 1), (2, 3), (3, 2), (3, 3)):
-                with self.subTest(widths=widths, each=each, differ=differ):
-                    self.assertEqual(count_of(each, differ, widths),
-                                     most_by_any_way(list(widths), each, differ))
-
-    def test_more_difference_never_brings_fewer(self):
-        widths = [3, 50, 9, 20, 22, 41, 100, 77, 78, 14, 5]
-        for each in range(1, 7):
-            counts = [count_of(each, differ, widths) for differ in range(51)]
-            self.assertEqual(counts, sorted(counts))
-
-    def test_bigger_punnets_never_bring_more(self):
-        widths = [3, 50, 9, 20, 22, 41, 100, 77, 78, 14, 5]
-        for differ in range(51):
-            counts = [count_of(each, differ, widths) for each in range(1, 7)]
-            self.assertEqual(counts, sorted(counts, reverse=True))
-
-    def test_the_order_told_does_not_matter(self):
-        for widths in permutations((10, 11, 13, 13, 16, 20)):
-            self.assertEqual(count_of(2, 2, widths), 2)
-
-    def test_all_wider_by_as_much(self):
-        widths = [1, 3, 4, 8, 9, 9, 20, 26]
-        for more in range(75):
-            self.assertEqual(count_of(2, 3, [width + more for width in widths]), count_of(2, 3, widths))
 
 
 if __name__ == "__main__":
